@@ -123,18 +123,8 @@ func TestPairPlansShareNoMemory(t *testing.T) {
 	times := []int{6, 1, 6, 2, 6, 6, 3}
 	plan, _ := impl.PairPlan(times)
 	escort, _ := impl.EscortPlan(times)
-	for _, lists := range [][][]int{plan, escort} {
-		for i := range lists {
-			want := make([][]int, len(lists))
-			for j, list := range lists {
-				want[j] = slices.Clone(list)
-			}
-			scribble(lists[i])
-			if !sameLists(lists[i+1:], want[i+1:]) || !sameLists(lists[:i], want[:i]) {
-				t.Fatalf("the list %d shares memory with another one: %v", i, lists)
-			}
-		}
-	}
+	checkApart(t, plan)
+	checkApart(t, escort)
 	first, _ := impl.FirstPairList(3, 5, 9)
 	scribble(first)
 	if again, ok := impl.FirstPairList(3, 5, 9); !ok || slices.Contains(again, -99) {

@@ -110,6 +110,8 @@ func isZero(v any) bool {
 		return len(x) == 0
 	case impl.State:
 		return isZeroState(x)
+	case []impl.State:
+		return len(x) == 0
 	case impl.Party:
 		return isZeroParty(x)
 	}
@@ -217,6 +219,11 @@ func scribble(v any) {
 		for i := range x.Over[:cap(x.Over)] {
 			x.Over[:cap(x.Over)][i] = !x.Over[:cap(x.Over)][i]
 		}
+	case []impl.State:
+		for _, s := range x {
+			scribble(s)
+		}
+		clear(x[:cap(x)])
 	case impl.Party:
 		scribble(x.Times)
 	}
@@ -260,23 +267,27 @@ func TestArgumentsAreNotModified(t *testing.T) {
 	}
 }
 
-// No two lists of a result share memory, their spare capacity with them.
+// checkApart checks that no two lists of a result share memory, their spare capacity with them.
+func checkApart(t *testing.T, lists [][]int) {
+	t.Helper()
+	for i := range lists {
+		want := make([][]int, len(lists))
+		for j, list := range lists {
+			want[j] = slices.Clone(list)
+		}
+		scribble(lists[i])
+		if !sameLists(lists[i+1:], want[i+1:]) || !sameLists(lists[:i], want[:i]) {
+			t.Fatalf("the list %d shares memory with another one: %v", i, lists)
+		}
+	}
+}
+
 func TestListsOfAResultShareNoMemory(t *testing.T) {
 	p := party(t, "3:1,2,5,10,20")
 	trips, _ := impl.TripsOf(p, stateOf(".....<"))
 	back, _ := impl.BackPlan(p, [][]int{{0, 1, 2}, {0}, {0, 3, 4}})
-	for _, lists := range [][][]int{trips, back} {
-		want := make([][]int, len(lists))
-		for i, list := range lists {
-			want[i] = slices.Clone(list)
-		}
-		for i := range lists {
-			scribble(lists[i])
-			if !sameLists(lists[i+1:], want[i+1:]) {
-				t.Fatalf("the list %d shares memory with a later one: %v", i, lists)
-			}
-		}
-	}
+	checkApart(t, trips)
+	checkApart(t, back)
 	twice := []int{0}
 	one := party(t, "1:4")
 	same, ok := impl.BackPlan(one, [][]int{twice, twice, twice})
