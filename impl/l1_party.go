@@ -193,6 +193,17 @@ func listsFrom(begin []int, others []int, most int) [][]int {
 	return lists
 }
 
+// crowdsUpTo returns the crowds of 1..most of so many people, in the order of their lists.
+func crowdsUpTo(people int, most int) []crowd {
+	var crowds []crowd
+	for _, list := range listsFrom(nil, place{}.atTorch(people), most) {
+		if c, ok := crowdOf(list, people, most); ok {
+			crowds = append(crowds, c)
+		}
+	}
+	return crowds
+}
+
 // choose returns one of two bytes.
 func choose(first bool, one byte, other byte) byte {
 	if first {

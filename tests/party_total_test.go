@@ -229,6 +229,31 @@ func scribble(v any) {
 	}
 }
 
+// checkArgumentsStay checks that calls with arguments that have spare capacity return what those without it did, and that neither the calls
+// nor what is done to their results change the arguments or later results.
+func checkArgumentsStay(t *testing.T, about any, w withSpare, plain []result, call func() []result) {
+	t.Helper()
+	before := w.whole()
+	results := call()
+	if !reflect.DeepEqual(plain, results) {
+		t.Errorf("%v: the spare capacity changes the results %v to %v", about, plain, results)
+	}
+	if !reflect.DeepEqual(before, w.whole()) {
+		t.Errorf("%v: arguments are changed to %v", about, w.whole())
+	}
+	for _, r := range results {
+		for _, v := range r.values {
+			scribble(v)
+		}
+		if !reflect.DeepEqual(before, w.whole()) {
+			t.Errorf("%v: %s returns memory of an argument", about, r.name)
+		}
+	}
+	if again := call(); !reflect.DeepEqual(plain, again) {
+		t.Errorf("%v: later results depend on what was done to earlier ones: %v", about, again)
+	}
+}
+
 // Promise 11: arguments are not modified, neither by a call nor by what is done to its results, and spare capacity is not read.
 func TestArgumentsAreNotModified(t *testing.T) {
 	cases := []struct {
@@ -246,24 +271,8 @@ func TestArgumentsAreNotModified(t *testing.T) {
 	}
 	for _, c := range cases {
 		w := makeSpare(party(t, c.party), stateOf(c.state), c.lists)
-		before := w.whole()
 		plain := callAll(party(t, c.party), stateOf(c.state), c.lists, c.n, c.party)
-		results := callAll(w.p, w.s, w.lists, c.n, c.party)
-		if !reflect.DeepEqual(plain, results) {
-			t.Errorf("%v: the spare capacity changes the results %v to %v", c, plain, results)
-		}
-		if !reflect.DeepEqual(before, w.whole()) {
-			t.Errorf("%v: arguments are changed to %v", c, w.whole())
-		}
-		for _, r := range results {
-			scribble(r.values[0])
-			if !reflect.DeepEqual(before, w.whole()) {
-				t.Errorf("%v: %s returns memory of an argument", c, r.name)
-			}
-		}
-		if again := callAll(w.p, w.s, w.lists, c.n, c.party); !reflect.DeepEqual(plain, again) {
-			t.Errorf("%v: later results depend on what was done to earlier ones: %v", c, again)
-		}
+		checkArgumentsStay(t, c, w, plain, func() []result { return callAll(w.p, w.s, w.lists, c.n, c.party) })
 	}
 }
 

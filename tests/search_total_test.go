@@ -105,26 +105,8 @@ func TestSearchModifiesNoArguments(t *testing.T) {
 		{"1:3", ".<", 0}, {"1:3,1", "x.>", 1}, {"2:10,5,2,1", "....<", 0}, {"2:10,5,2,1", "xxxx>", 3}, {"2:4,4,4", ".x.<", 2}, {"3:9,8,7,6,5", "x..x.>", 4},
 	} {
 		w := makeSpare(party(t, c.party), stateOf(c.state), nil)
-		before := w.whole()
 		plain := callSearch(party(t, c.party), stateOf(c.state), c.n)
-		results := callSearch(w.p, w.s, c.n)
-		if !reflect.DeepEqual(plain, results) {
-			t.Errorf("%v: the spare capacity changes the results %v to %v", c, plain, results)
-		}
-		if !reflect.DeepEqual(before, w.whole()) {
-			t.Errorf("%v: arguments are changed to %v", c, w.whole())
-		}
-		for _, r := range results {
-			for _, v := range r.values {
-				scribble(v)
-			}
-			if !reflect.DeepEqual(before, w.whole()) {
-				t.Errorf("%v: %s returns memory of an argument", c, r.name)
-			}
-		}
-		if again := callSearch(w.p, w.s, c.n); !reflect.DeepEqual(plain, again) {
-			t.Errorf("%v: later results depend on what was done to earlier ones: %v", c, again)
-		}
+		checkArgumentsStay(t, c, w, plain, func() []result { return callSearch(w.p, w.s, c.n) })
 	}
 }
 
