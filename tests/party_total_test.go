@@ -114,6 +114,10 @@ func isZero(v any) bool {
 		return len(x) == 0
 	case impl.Party:
 		return isZeroParty(x)
+	case impl.Bank:
+		return isZeroBank(x)
+	case impl.Keep:
+		return isZeroKeep(x)
 	}
 	return reflect.ValueOf(v).IsZero()
 }
@@ -169,9 +173,10 @@ func TestAllArgumentsAreAccepted(t *testing.T) {
 
 // withSpare are arguments whose slices have spare capacity that is filled.
 type withSpare struct {
-	p     impl.Party
-	s     impl.State
-	lists [][]int
+	p       impl.Party
+	s       impl.State
+	lists   [][]int
+	dangers [][]int
 }
 
 func spare[T any](list []T, fill T) []T {
@@ -179,28 +184,39 @@ func spare[T any](list []T, fill T) []T {
 	return long[:len(list)]
 }
 
-func makeSpare(p impl.Party, s impl.State, lists [][]int) withSpare {
-	w := withSpare{
-		p: impl.Party{Times: spare(p.Times, -77), Seats: p.Seats},
-		s: impl.State{Over: spare(s.Over, !s.Torch), Torch: s.Torch},
-	}
+func spareLists(lists [][]int) [][]int {
+	var all [][]int
 	for _, list := range lists {
-		w.lists = append(w.lists, spare(list, -77))
+		all = append(all, spare(list, -77))
 	}
-	w.lists = spare(w.lists, []int{-77})
-	return w
+	return spare(all, []int{-77})
+}
+
+func makeSpare(p impl.Party, s impl.State, lists [][]int) withSpare {
+	return withSpare{
+		p:     impl.Party{Times: spare(p.Times, -77), Seats: p.Seats},
+		s:     impl.State{Over: spare(s.Over, !s.Torch), Torch: s.Torch},
+		lists: spareLists(lists),
+	}
+}
+
+// wholeLists returns lists with their spare capacity.
+func wholeLists(lists [][]int) [][]int {
+	var all [][]int
+	for _, list := range lists[:cap(lists)] {
+		all = append(all, slices.Clone(list[:cap(list)]))
+	}
+	return all
 }
 
 // whole returns the arguments with their spare capacity.
 func (w withSpare) whole() withSpare {
-	all := withSpare{
-		p: impl.Party{Times: slices.Clone(w.p.Times[:cap(w.p.Times)]), Seats: w.p.Seats},
-		s: impl.State{Over: slices.Clone(w.s.Over[:cap(w.s.Over)]), Torch: w.s.Torch},
+	return withSpare{
+		p:       impl.Party{Times: slices.Clone(w.p.Times[:cap(w.p.Times)]), Seats: w.p.Seats},
+		s:       impl.State{Over: slices.Clone(w.s.Over[:cap(w.s.Over)]), Torch: w.s.Torch},
+		lists:   wholeLists(w.lists),
+		dangers: wholeLists(w.dangers),
 	}
-	for _, list := range w.lists[:cap(w.lists)] {
-		all.lists = append(all.lists, slices.Clone(list[:cap(list)]))
-	}
-	return all
 }
 
 // scribble overwrites the whole room of the slices of a result.
@@ -226,6 +242,10 @@ func scribble(v any) {
 		clear(x[:cap(x)])
 	case impl.Party:
 		scribble(x.Times)
+	case impl.Bank:
+		scribble(asState(x))
+	case impl.Keep:
+		scribble(x.Dangers)
 	}
 }
 
