@@ -118,6 +118,10 @@ func isZero(v any) bool {
 		return isZeroBank(x)
 	case impl.Keep:
 		return isZeroKeep(x)
+	case impl.Places:
+		return isZeroPlaces(x)
+	case []impl.Voyage:
+		return len(x) == 0
 	}
 	return reflect.ValueOf(v).IsZero()
 }
@@ -177,6 +181,8 @@ type withSpare struct {
 	s       impl.State
 	lists   [][]int
 	dangers [][]int
+	at      []int
+	voyages []impl.Voyage
 }
 
 func spare[T any](list []T, fill T) []T {
@@ -190,6 +196,14 @@ func spareLists(lists [][]int) [][]int {
 		all = append(all, spare(list, -77))
 	}
 	return spare(all, []int{-77})
+}
+
+func spareVoyages(voyages []impl.Voyage) []impl.Voyage {
+	var all []impl.Voyage
+	for _, v := range voyages {
+		all = append(all, impl.Voyage{To: v.To, Group: spare(v.Group, -77)})
+	}
+	return spare(all, impl.Voyage{To: -77, Group: []int{-77}})
 }
 
 func makeSpare(p impl.Party, s impl.State, lists [][]int) withSpare {
@@ -209,6 +223,15 @@ func wholeLists(lists [][]int) [][]int {
 	return all
 }
 
+// wholeVoyages returns voyages with their spare capacity.
+func wholeVoyages(voyages []impl.Voyage) []impl.Voyage {
+	var all []impl.Voyage
+	for _, v := range voyages[:cap(voyages)] {
+		all = append(all, impl.Voyage{To: v.To, Group: slices.Clone(v.Group[:cap(v.Group)])})
+	}
+	return all
+}
+
 // whole returns the arguments with their spare capacity.
 func (w withSpare) whole() withSpare {
 	return withSpare{
@@ -216,6 +239,8 @@ func (w withSpare) whole() withSpare {
 		s:       impl.State{Over: slices.Clone(w.s.Over[:cap(w.s.Over)]), Torch: w.s.Torch},
 		lists:   wholeLists(w.lists),
 		dangers: wholeLists(w.dangers),
+		at:      slices.Clone(w.at[:cap(w.at)]),
+		voyages: wholeVoyages(w.voyages),
 	}
 }
 
@@ -246,6 +271,13 @@ func scribble(v any) {
 		scribble(asState(x))
 	case impl.Keep:
 		scribble(x.Dangers)
+	case impl.Places:
+		scribble(x.At)
+	case []impl.Voyage:
+		for _, v := range x {
+			scribble(v.Group)
+		}
+		clear(x[:cap(x)])
 	}
 }
 
