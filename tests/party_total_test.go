@@ -122,6 +122,8 @@ func isZero(v any) bool {
 		return isZeroPlaces(x)
 	case []impl.Voyage:
 		return len(x) == 0
+	case impl.Crew:
+		return isZeroCrew(x)
 	}
 	return reflect.ValueOf(v).IsZero()
 }
@@ -183,6 +185,7 @@ type withSpare struct {
 	dangers [][]int
 	at      []int
 	voyages []impl.Voyage
+	rows    []bool
 }
 
 func spare[T any](list []T, fill T) []T {
@@ -241,6 +244,7 @@ func (w withSpare) whole() withSpare {
 		dangers: wholeLists(w.dangers),
 		at:      slices.Clone(w.at[:cap(w.at)]),
 		voyages: wholeVoyages(w.voyages),
+		rows:    slices.Clone(w.rows[:cap(w.rows)]),
 	}
 }
 
@@ -256,10 +260,12 @@ func scribble(v any) {
 		for i := range x[:cap(x)] {
 			x[:cap(x)][i] = -99
 		}
-	case impl.State:
-		for i := range x.Over[:cap(x.Over)] {
-			x.Over[:cap(x.Over)][i] = !x.Over[:cap(x.Over)][i]
+	case []bool:
+		for i := range x[:cap(x)] {
+			x[:cap(x)][i] = !x[:cap(x)][i]
 		}
+	case impl.State:
+		scribble(x.Over)
 	case []impl.State:
 		for _, s := range x {
 			scribble(s)
@@ -278,6 +284,9 @@ func scribble(v any) {
 			scribble(v.Group)
 		}
 		clear(x[:cap(x)])
+	case impl.Crew:
+		scribble(x.Weights)
+		scribble(x.Rows)
 	}
 }
 

@@ -68,11 +68,22 @@ func lessen(times map[string]int, state string, time int) bool {
 }
 
 func chartOf(p impl.Party) chart {
-	c := chart{p: p, states: inOrder(len(p.Times)), steps: map[string][]step{}, to: map[string]int{}, from: map[string]int{}}
-	for _, s := range c.states {
+	c := chartBy(len(p.Times), func(s impl.State) []step {
+		var steps []step
 		for _, trip := range tripsBySets(p, s) {
-			c.steps[textOf(s)] = append(c.steps[textOf(s)], step{trip, slowestOf(p.Times, trip), behind(s, trip)})
+			steps = append(steps, step{trip, slowestOf(p.Times, trip), behind(s, trip)})
 		}
+		return steps
+	})
+	c.p = p
+	return c
+}
+
+// chartBy is the chart of so many people, but for their party, by the trips in each state, in order.
+func chartBy(people int, stepsIn func(impl.State) []step) chart {
+	c := chart{states: inOrder(people), steps: map[string][]step{}, to: map[string]int{}, from: map[string]int{}}
+	for _, s := range c.states {
+		c.steps[textOf(s)] = stepsIn(s)
 	}
 	c.first = textOf(c.states[0])
 	c.last = textOf(c.states[len(c.states)-1])
