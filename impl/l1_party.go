@@ -178,13 +178,13 @@ func addUp[A any](trips []crowd, measure func(crowd, A) int, about A) int {
 	return sum
 }
 
-// listsFrom returns the increasing lists of at most so many that begin with some people and go on with others,
-// at least one. Each is put before those that it begins, which makes the order lexicographic.
-func listsFrom(begin []int, others []int, most int) [][]int {
+// listsFrom returns the lists of at most so many that begin with some and go on with others in their order, at least one.
+// Each is put before those that it begins, which makes the order lexicographic.
+func listsFrom[T any](begin []T, others []T, most int) [][]T {
 	if len(begin) >= most {
 		return nil
 	}
-	var lists [][]int
+	var lists [][]T
 	for i, k := range others {
 		list := append(slices.Clone(begin), k)
 		lists = append(lists, list)

@@ -57,21 +57,10 @@ func TestCrewTexts(t *testing.T) {
 		{"100=50,50r,100", impl.Crew{Weights: []int{50, 50, 100}, Rows: []bool{false, true, false}, Most: 100}},
 		{"2000=500r,1,500,10r,20r,30,499r", seven},
 	} {
-		if text, ok := impl.CrewText(c.c); !ok || text != c.text {
-			t.Errorf("CrewText(%v) = %q, %v", c.c, text, ok)
-		}
-		if again, ok := impl.ParseCrew(c.text); !ok || !sameCrew(again, c.c) {
-			t.Errorf("ParseCrew(%q) = %v, %v", c.text, again, ok)
-		}
+		checkText(t, c.c, c.text, impl.CrewText, impl.ParseCrew, sameCrew)
 	}
 	for _, c := range slices.Concat(smallCrews(), otherCrews(2)) {
-		text, ok := impl.CrewText(c)
-		if !ok || text != crewText(c) {
-			t.Fatalf("CrewText(%v) = %q, %v", c, text, ok)
-		}
-		if again, ok := impl.ParseCrew(text); !ok || !sameCrew(again, c) {
-			t.Fatalf("ParseCrew(%q) = %v, %v, want %v", text, again, ok, c)
-		}
+		checkText(t, c, crewText(c), impl.CrewText, impl.ParseCrew, sameCrew)
 	}
 	for _, c := range badCrews() {
 		if text, ok := impl.CrewText(c); ok || text != "" {
@@ -104,14 +93,8 @@ func TestTextsOfNoCrew(t *testing.T) {
 
 // Each text that is parsed is the text of what it is parsed to, in all short texts of some bytes.
 func TestParseCrewOfAllShortTexts(t *testing.T) {
-	texts := []string{""}
-	for i := 0; len(texts[i]) < 6; i++ {
-		for _, c := range []string{"0", "2", "5", "=", ",", "r", "-"} {
-			texts = append(texts, texts[i]+c)
-		}
-	}
 	parsed := 0
-	for _, text := range texts {
+	for _, text := range shortTexts([]string{"0", "2", "5", "=", ",", "r", "-"}, 6) {
 		if checkParse(t, text) {
 			parsed++
 		}
@@ -127,16 +110,8 @@ func TestTextsNextToCrewTexts(t *testing.T) {
 		if !checkParse(t, text) {
 			t.Errorf("%q is no text of a crew", text)
 		}
-		for i := range len(text) + 1 {
-			for c := range 256 {
-				checkParse(t, text[:i]+string([]byte{byte(c)})+text[i:])
-				if i < len(text) {
-					checkParse(t, text[:i]+string([]byte{byte(c)})+text[i+1:])
-				}
-			}
-			if i < len(text) {
-				checkParse(t, text[:i]+text[i+1:])
-			}
+		for _, near := range textsNextTo(text) {
+			checkParse(t, near)
 		}
 	}
 }

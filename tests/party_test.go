@@ -660,16 +660,50 @@ func TestPartyTexts(t *testing.T) {
 	}
 }
 
-// Each text that is parsed is the text of what it is parsed to, in all short texts of some bytes.
-func TestParsePartyOfAllShortTexts(t *testing.T) {
-	texts := []string{""}
-	for i := 0; len(texts[i]) < 6; i++ {
-		for _, c := range []string{"0", "1", "3", "4", ":", ",", "-"} {
-			texts = append(texts, texts[i]+c)
+// checkText checks that something has a text, and is parsed from it again.
+func checkText[T any](t *testing.T, x T, want string, tell func(T) (string, bool), parse func(string) (T, bool), same func(T, T) bool) {
+	t.Helper()
+	if text, ok := tell(x); !ok || text != want {
+		t.Fatalf("the text of %v is %q, %v, not %q", x, text, ok, want)
+	}
+	if again, ok := parse(want); !ok || !same(again, x) {
+		t.Fatalf("%q is parsed to %v, %v, not to %v", want, again, ok, x)
+	}
+}
+
+// textsNextTo are the texts with a byte more, another one or one less.
+func textsNextTo(text string) []string {
+	var texts []string
+	for i := range len(text) + 1 {
+		behind := text[min(i+1, len(text)):]
+		texts = append(texts, text[:i]+behind)
+		for c := range 256 {
+			letter := string([]byte{byte(c)})
+			texts = append(texts, text[:i]+letter+text[i:], text[:i]+letter+behind)
 		}
 	}
+	return texts
+}
+
+// shortTexts are all texts of at most so many of some letters.
+func shortTexts(letters []string, most int) []string {
+	texts, longest := []string{""}, []string{""}
+	for range most {
+		var longer []string
+		for _, text := range longest {
+			for _, letter := range letters {
+				longer = append(longer, text+letter)
+			}
+		}
+		texts, longest = append(texts, longer...), longer
+	}
+	return texts
+}
+
+// Each text that is parsed is the text of what it is parsed to, in all short texts of some bytes.
+func TestParsePartyOfAllShortTexts(t *testing.T) {
 	parsed := 0
-	for _, text := range texts {
+	for _, text := range shortTexts([]string{"0", "1", "3", "4", ":", ",", "-"}, 6) {
 		p, ok := impl.ParseParty(text)
 		if !ok {
 			continue

@@ -124,6 +124,12 @@ func isZero(v any) bool {
 		return len(x) == 0
 	case impl.Crew:
 		return isZeroCrew(x)
+	case impl.Night:
+		return isZeroNight(x)
+	case impl.Camp:
+		return isZeroCamp(x)
+	case [][][]int:
+		return len(x) == 0
 	}
 	return reflect.ValueOf(v).IsZero()
 }
@@ -186,6 +192,7 @@ type withSpare struct {
 	at      []int
 	voyages []impl.Voyage
 	rows    []bool
+	rounds  [][][]int
 }
 
 func spare[T any](list []T, fill T) []T {
@@ -207,6 +214,14 @@ func spareVoyages(voyages []impl.Voyage) []impl.Voyage {
 		all = append(all, impl.Voyage{To: v.To, Group: spare(v.Group, -77)})
 	}
 	return spare(all, impl.Voyage{To: -77, Group: []int{-77}})
+}
+
+func spareRounds(rounds [][][]int) [][][]int {
+	var all [][][]int
+	for _, round := range rounds {
+		all = append(all, spareLists(round))
+	}
+	return spare(all, [][]int{{-77}})
 }
 
 func makeSpare(p impl.Party, s impl.State, lists [][]int) withSpare {
@@ -235,6 +250,15 @@ func wholeVoyages(voyages []impl.Voyage) []impl.Voyage {
 	return all
 }
 
+// wholeRounds returns rounds with their spare capacity.
+func wholeRounds(rounds [][][]int) [][][]int {
+	var all [][][]int
+	for _, round := range rounds[:cap(rounds)] {
+		all = append(all, wholeLists(round))
+	}
+	return all
+}
+
 // whole returns the arguments with their spare capacity.
 func (w withSpare) whole() withSpare {
 	return withSpare{
@@ -245,6 +269,7 @@ func (w withSpare) whole() withSpare {
 		at:      slices.Clone(w.at[:cap(w.at)]),
 		voyages: wholeVoyages(w.voyages),
 		rows:    slices.Clone(w.rows[:cap(w.rows)]),
+		rounds:  wholeRounds(w.rounds),
 	}
 }
 
@@ -287,6 +312,15 @@ func scribble(v any) {
 	case impl.Crew:
 		scribble(x.Weights)
 		scribble(x.Rows)
+	case impl.Night:
+		scribble(x.Times)
+	case impl.Camp:
+		scribble(x.Over)
+	case [][][]int:
+		for _, lists := range x {
+			scribble(lists)
+		}
+		clear(x[:cap(x)])
 	}
 }
 
