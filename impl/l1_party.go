@@ -221,6 +221,28 @@ func number(s string) (int, bool) {
 	return n, true
 }
 
+// parseWords reads at most so many words of a text, each with something between it and the next one, all in the same way.
+// An empty text has no words. It fails if one of them cannot be read.
+func parseWords[T any](s string, between string, most int, parse func(string) (T, bool)) ([]T, bool) {
+	if s == "" {
+		return nil, true
+	}
+	// One word more is enough to tell that there are too many.
+	words := strings.SplitN(s, between, most+1)
+	if len(words) > most {
+		return nil, false
+	}
+	var list []T
+	for _, word := range words {
+		x, ok := parse(word)
+		if !ok {
+			return nil, false
+		}
+		list = append(list, x)
+	}
+	return list, true
+}
+
 // IsParty reports whether p, whose numbers may be any, is a party.
 func IsParty(p Party) bool {
 	if len(p.Times) < 1 || len(p.Times) > MaxPeople || p.Seats < 1 || p.Seats > MaxSeats {
@@ -419,24 +441,12 @@ func PartyText(p Party) (string, bool) {
 
 // ParseParty returns the party with a PartyText. It fails if there is none.
 func ParseParty(s string) (Party, bool) {
-	seats, times, found := strings.Cut(s, ":")
-	if !found {
-		return Party{}, false
-	}
-	var p Party
-	var ok bool
-	if p.Seats, ok = number(seats); !ok {
-		return Party{}, false
-	}
-	// One word more than a party may have is enough to tell that there are too many.
-	for _, word := range strings.SplitN(times, ",", MaxPeople+1) {
-		time, ok := number(word)
-		if !ok {
-			return Party{}, false
-		}
-		p.Times = append(p.Times, time)
-	}
-	if !IsParty(p) {
+	// Without :, no times are told, which no party has.
+	head, tail, _ := strings.Cut(s, ":")
+	seats, fine := number(head)
+	times, ok := parseWords(tail, ",", MaxPeople, number)
+	p := Party{Times: times, Seats: seats}
+	if !fine || !ok || !IsParty(p) {
 		return Party{}, false
 	}
 	return p, true

@@ -130,6 +130,8 @@ func isZero(v any) bool {
 		return isZeroCamp(x)
 	case [][][]int:
 		return len(x) == 0
+	case impl.Puzzle:
+		return isZeroPuzzle(x)
 	}
 	return reflect.ValueOf(v).IsZero()
 }
@@ -193,6 +195,7 @@ type withSpare struct {
 	voyages []impl.Voyage
 	rows    []bool
 	rounds  [][][]int
+	clues   []impl.Clue
 }
 
 func spare[T any](list []T, fill T) []T {
@@ -270,6 +273,7 @@ func (w withSpare) whole() withSpare {
 		voyages: wholeVoyages(w.voyages),
 		rows:    slices.Clone(w.rows[:cap(w.rows)]),
 		rounds:  wholeRounds(w.rounds),
+		clues:   slices.Clone(w.clues[:cap(w.clues)]),
 	}
 }
 
@@ -321,6 +325,10 @@ func scribble(v any) {
 			scribble(lists)
 		}
 		clear(x[:cap(x)])
+	case impl.Puzzle:
+		for k := range x.Clues[:cap(x.Clues)] {
+			x.Clues[:cap(x.Clues)][k] = impl.Clue{Kind: -99, A: -99, B: -99}
+		}
 	}
 }
 
