@@ -132,6 +132,10 @@ func isZero(v any) bool {
 		return len(x) == 0
 	case impl.Puzzle:
 		return isZeroPuzzle(x)
+	case impl.Desk:
+		return isZeroDesk(x)
+	case []string:
+		return len(x) == 0
 	}
 	return reflect.ValueOf(v).IsZero()
 }
@@ -328,6 +332,15 @@ func scribble(v any) {
 	case impl.Puzzle:
 		for k := range x.Clues[:cap(x.Clues)] {
 			x.Clues[:cap(x.Clues)][k] = impl.Clue{Kind: -99, A: -99, B: -99}
+		}
+	case impl.Desk:
+		scribble(x.Party)
+		scribble(x.Now)
+		scribble(x.Keep)
+		scribble(x.Crew)
+	case []string:
+		for i := range x[:cap(x)] {
+			x[:cap(x)][i] = "scribbled"
 		}
 	}
 }
